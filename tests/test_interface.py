@@ -1,0 +1,61 @@
+"""The interface: names, arguments in their order, and where each is defined."""
+
+import importlib
+import inspect
+import unittest
+
+from tests.helper import REFUSALS
+
+# Module by module: class by class the arguments with which it is made, and those of its methods.
+CLASSES = {
+    "whomay.errors": {
+        "WhoError": (None, {"told": []}),
+        **{kind: ([name for name, worth in fields], {}) for kind, fields in REFUSALS},
+    },
+    "whomay.patterns": {
+        "Bar": (["name", "variables", "conditions"], {"__eq__": None, "__str__": None}),
+        "Rule": (["name", "variables", "conditions", "gives", "by"], {"__eq__": None, "__str__": None}),
+        "Making": (["maker", "made", "down", "up"], {"__eq__": None, "__str__": None}),
+    },
+    "whomay.schemes": {
+        "Scheme": (["sorts", "words", "makings=None", "rules=None", "bars=None"], {
+            "sorts": [], "words": [], "makings": [], "rules": [], "bars": [],
+            "rule": ["name"], "bar": ["name"],
+            "with_rule": ["rule"], "with_bar": ["bar"], "with_making": ["making"],
+            "without_rule": ["name"], "without_bar": ["name"], "without_making": ["maker", "made"],
+        }),
+    },
+    "whomay.houses": {
+        "House": (["scheme"], {
+            "enter": ["name", "sort", "awake=True"],
+            "give": ["x", "word", "y"], "take": ["x", "word", "y"], "wake": ["x"], "sleep": ["x"],
+            "things": [], "held": [], "sort_of": ["x"], "is_awake": ["x"], "holds": ["x", "word", "y"],
+            "scheme": [], "twin": [], "__len__": None,
+        }),
+    },
+}
+
+
+def arguments(function):
+    """The function's arguments but its own object, each as it is written."""
+    return [str(part) for part in inspect.signature(function).parameters.values()][1:]
+
+
+class Interface(unittest.TestCase):
+    def test_classes_and_methods(self):
+        for module_name, classes in CLASSES.items():
+            module = importlib.import_module(module_name)
+            for class_name, (wanted, methods) in classes.items():
+                with self.subTest(module=module_name, name=class_name):
+                    made = getattr(module, class_name)
+                    self.assertEqual(made.__module__, module_name)
+                    if wanted is not None:
+                        self.assertEqual(arguments(made.__init__), wanted)
+                    for method, method_wanted in methods.items():
+                        self.assertIn(method, vars(made))
+                        if method_wanted is not None:
+                            self.assertEqual(arguments(vars(made)[method]), method_wanted)
+
+
+if __name__ == "__main__":
+    unittest.main()

@@ -1,0 +1,1 @@
+"""Whomay: who may ever come to hold what."""
