@@ -33,12 +33,34 @@ CLASSES = {
             "scheme": [], "twin": [], "__len__": None,
         }),
     },
+    "whomay.finish": {
+        "Finish": (["house", "without=None"], {
+            "things": [], "child": ["name", "sort"], "held": [], "round_of": ["x", "word", "y"],
+            "reason": ["x", "word", "y"], "way": [], "end": [],
+        }),
+    },
+}
+
+# Module by module: function by function its arguments.
+FUNCTIONS = {
+    "whomay.deeds": {"play": ["house", "deed"], "after": ["house", "deeds"], "first_refused": ["house", "deeds"]},
+    "whomay.matching": {"matches": ["house", "pattern"], "open_deeds": ["house"]},
+    "whomay.finish": {"images": ["finish", "deeds"]},
+    "whomay.ways": {
+        "may": ["house", "x", "word", "y"], "how": ["house", "x", "word", "y"], "who": ["house", "word", "y"],
+        "stones": ["house", "x", "word", "y"],
+    },
 }
 
 
-def arguments(function):
-    """The function's arguments but its own object, each as it is written."""
-    return [str(part) for part in inspect.signature(function).parameters.values()][1:]
+def all_arguments(function):
+    """The function's arguments, each as it is written."""
+    return [str(part) for part in inspect.signature(function).parameters.values()]
+
+
+def arguments(method):
+    """The method's arguments but its own object, each as it is written."""
+    return all_arguments(method)[1:]
 
 
 class Interface(unittest.TestCase):
@@ -55,6 +77,14 @@ class Interface(unittest.TestCase):
                         self.assertIn(method, vars(made))
                         if method_wanted is not None:
                             self.assertEqual(arguments(vars(made)[method]), method_wanted)
+
+    def test_functions(self):
+        for module_name, functions in FUNCTIONS.items():
+            module = importlib.import_module(module_name)
+            for name, wanted in functions.items():
+                with self.subTest(module=module_name, name=name):
+                    self.assertEqual(getattr(module, name).__module__, module_name)
+                    self.assertEqual(all_arguments(getattr(module, name)), wanted)
 
 
 if __name__ == "__main__":

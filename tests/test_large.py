@@ -1,0 +1,136 @@
+"""Large inputs are answered within seconds: 24 things, eight rules of three conditions over four variables."""
+
+import random
+import time
+import unittest
+
+from tests.helper import (
+    RefusalCase, at, bar_of, full_makings, house_of, many_of, rule_by_lot, rule_of, shown,
+)
+from whomay.deeds import after, first_refused
+from whomay.finish import Finish
+from whomay.houses import House
+from whomay.matching import matches, open_deeds
+from whomay.patterns import Making
+from whomay.schemes import Scheme
+from whomay.ways import how, may, stones, who
+
+SECONDS = 20
+WORDS = ["own", "use", "know", "see", "hear"]
+
+
+def large_house(seed, share, sorts=("s",), makings=None, things=24):
+    """Things with each holding standing by that share."""
+    lot = random.Random(seed)
+    rules = [rule_by_lot(lot, "r" + str(number), [], WORDS, 4, 3) for number in range(8)]
+    house = House(Scheme(list(sorts), WORDS, makings, rules))
+    for number in range(things):
+        house.enter("t" + str(number), sorts[0])
+    for x in house.things():
+        for word in WORDS:
+            for y in house.things():
+                if lot.random() < share:
+                    house.give(x, word, y)
+    return house
+
+
+def counter_house(many):
+    """The pointer of each thing goes along all things, then that of the next begins: one new holding a round."""
+    rules = [
+        rule_of("step", "a b c", "a point b, b next c", "a point c", "a"),
+        rule_of("carry", "a b f c", "a point b, b last f, a next c", "c point f", "a"),
+    ]
+    names = ["t" + str(number) for number in range(many)]
+    house = house_of(Scheme(["s"], ["point", "next", "last"], None, rules), " ".join(name + ":s" for name in names))
+    for one, other in zip(names, names[1:]):
+        house.give(one, "next", other)
+    house.give(names[-1], "last", names[0])
+    house.give(names[0], "point", names[0])
+    return house
+
+
+class Large(RefusalCase):
+    def setUp(self):
+        self.began = time.monotonic()
+
+    def tearDown(self):
+        self.assertLess(time.monotonic() - self.began, SECONDS)
+
+    def finish_fits(self, house):
+        finish = Finish(house)
+        way = finish.way()
+        self.assertIsNone(first_refused(house, way))
+        end = after(house, way)
+        self.assertEqual((end.things(), end.held()), (finish.things(), finish.held()))
+        self.assertEqual(open_deeds(end), [])
+        for x, word, y in finish.held():
+            if finish.round_of(x, word, y) > 0:
+                kind, name, things = finish.reason(x, word, y)
+                conditions, given = at(house.scheme().rule(name), things)
+                self.assertEqual(given, (x, word, y))
+                # Had all conditions stood a round earlier, so would the holding.
+                self.assertEqual(max(finish.round_of(*each) for each in conditions) + 1, finish.round_of(x, word, y))
+        return finish
+
+    def asked(self, house, finish, many):
+        names = set(house.things())
+        new = [triple for triple in finish.held() if {triple[0], triple[2]} <= names and not house.holds(*triple)]
+        for x, word, y in random.Random(1).sample(new, min(many, len(new))):
+            self.assertIs(may(house, x, word, y), True)
+            self.assertIn(x, who(house, word, y))
+            way = how(house, x, word, y)
+            self.assertTrue(after(house, way).holds(x, word, y))
+            for holding in stones(house, x, word, y):
+                self.assertIsNone(Finish(house, [holding]).round_of(x, word, y))
+        return len(new)
+
+    def test_finished_houses_of_any_share(self):
+        new = 0
+        for seed, share in enumerate([0.01, 0.02, 0.05, 0.1, 0.3, 0.9, 1.0]):
+            house = large_house(seed, share)
+            before = shown(house)
+            with self.subTest(seed=seed, share=share):
+                new += self.asked(house, self.finish_fits(house), 2)
+                self.assertEqual(shown(house), before)
+        self.assertGreater(new, 2000)
+
+    def test_with_makings(self):
+        makings = [
+            Making("s", "p", ["own"], ["see"]), Making("s", "q", ["use"], []), Making("p", "q", ["own"], ["know"]),
+        ]
+        house = large_house(5, 0.1, ("s", "p", "q"), makings, 6)
+        finish = self.finish_fits(house)
+        self.assertEqual(len(finish.things()), 24)
+        self.assertGreater(self.asked(house, finish, 3), 20)
+
+    def test_one_new_holding_a_round(self):
+        house = counter_house(24)
+        finish = self.finish_fits(house)
+        self.assertEqual(finish.round_of("t23", "point", "t23"), 575)
+        self.assertEqual(len(how(house, "t23", "point", "t23")), 575)
+
+    def test_a_long_row_of_stones(self):
+        house = counter_house(12)
+        wanted = [triple for triple in Finish(house).held() if not house.holds(*triple)]
+        wanted.remove(("t11", "point", "t11"))
+        self.assertEqual(stones(house, "t11", "point", "t11"), sorted(wanted))
+        self.assertEqual(len(wanted), 142)
+
+    def test_what_can_not_be_counted_by_making(self):
+        for number in range(60):
+            self.refused("Crowded", [480], Finish, many_of(full_makings(), "s0", 60))
+
+    def test_sixty_things_that_all_hold_a_word_over_all(self):
+        rule = rule_of("on", "a b c d", "a own b, b own c, c own d", "a own d", "c")
+        house = many_of(Scheme(["s"], ["own", "use"], None, [rule]), "s", 60)
+        for x in house.things():
+            for y in house.things():
+                house.give(x, "own", y)
+        self.assertEqual(open_deeds(house), [])
+        self.assertEqual(len(matches(house, bar_of("b", "x y", "x own y, y own x"))), 3600)
+        house.take("t5", "own", "t7")
+        self.assertEqual(len(open_deeds(house)), 59 * 59 - 1)
+
+
+if __name__ == "__main__":
+    unittest.main()
