@@ -367,3 +367,59 @@ def all_told(finish):
         finish.things(), holdings, [finish.round_of(*holding) for holding in holdings],
         [finish.reason(*holding) for holding in holdings], finish.way(), shown(finish.end()),
     )
+
+
+def few_words_by_lot(lot, most_rules=4):
+    """A scheme of two sorts and two words, whose rules often follow from one another."""
+    sorts, words = ["lord", "box"], ["own", "use"]
+    makings = [Making("lord", "box", lot.sample(words, lot.randint(0, 2)), lot.sample(words, lot.randint(0, 1)))]
+    rules = []
+    for number in range(lot.randint(1, most_rules)):
+        many = lot.choice([1, 1, 2, 2, 3])
+        rules.append(rule_by_lot(lot, "r" + str(number), sorts, words, min(lot.choice([1, 2, 2, 3]), many + 1), many))
+    return Scheme(sorts, words, makings[:lot.randint(0, 1)], rules)
+
+
+def with_rules(scheme, rules):
+    return Scheme(scheme.sorts(), scheme.words(), scheme.makings(), rules, scheme.bars())
+
+
+def pair_by_lot(lot):
+    """Two schemes alike but for their rules, some of which both have."""
+    one, other = few_words_by_lot(lot), few_words_by_lot(lot)
+    rules = {rule.name: rule for rule in one.rules() + other.rules()}
+    kept = [rules[name] for name in sorted(rules)]
+    return with_rules(one, lot.sample(one.rules(), lot.randint(1, len(one.rules())))), with_rules(one, kept)
+
+
+def few_words_house_by_lot(lot, scheme, many_held=4):
+    house = House(scheme)
+    for name in ["ann", "bob", "cat"][:lot.randint(1, 3)]:
+        house.enter(name, lot.choice(scheme.sorts()), lot.random() < 0.7)
+    for number in range(lot.randint(1, many_held)):
+        house.give(lot.choice(house.things()), lot.choice(scheme.words()), lot.choice(house.things()))
+    return house
+
+
+def moved(house, scheme):
+    later = House(scheme)
+    for name in house.things():
+        later.enter(name, house.sort_of(name), house.is_awake(name))
+    for holding in house.held():
+        later.give(*holding)
+    return later
+
+
+def played_by_lot(lot, house, play, many=12):
+    """Some deeds that the house plays, one behind the other; what is made is called n0, n1 or m1, m2 and so on."""
+    later = house.twin()
+    deeds = []
+    for number in range(many):
+        letter = lot.choice("nm")
+        deed = lot.choice(all_deeds(later, letter + str(number)) or [("jump",)])
+        try:
+            play(later, deed)
+        except WhoError:
+            continue
+        deeds.append(deed)
+    return deeds

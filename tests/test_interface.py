@@ -50,6 +50,19 @@ FUNCTIONS = {
         "may": ["house", "x", "word", "y"], "how": ["house", "x", "word", "y"], "who": ["house", "word", "y"],
         "stones": ["house", "x", "word", "y"],
     },
+    "whomay.papers": {
+        "paper_of": ["house"], "fault": ["house", "paper"], "keeps_out": ["house", "paper", "x", "word", "y"],
+        "brings": ["house", "deeds", "x", "word", "y"],
+    },
+    "whomay.least": {
+        "helpers": ["house", "x", "word", "y"], "guards": ["house", "x", "word", "y"],
+        "cure": ["house", "x", "word", "y"],
+    },
+    "whomay.compare": {
+        "sort_rows": ["scheme", "rule"], "least_house": ["scheme", "rule", "sorts"], "follows": ["scheme", "rule"],
+        "freer": ["one", "other"], "carried": ["one", "other"], "leaner": ["scheme"],
+    },
+    "whomay.carrying": {"translated": ["house", "deeds", "other"]},
 }
 
 

@@ -11,7 +11,7 @@ PACKAGE = pathlib.Path(__file__).resolve().parent.parent / "whomay"
 
 ALLOWED_BUILTINS = set(
     "len range enumerate zip min max sum abs sorted reversed int str bool bytes list tuple dict set frozenset"
-    " isinstance ord repr any all divmod iter next Exception ValueError TypeError KeyError IndexError LookupError"
+    " isinstance ord repr any all divmod iter next super Exception ValueError TypeError KeyError IndexError LookupError"
     " ZeroDivisionError ArithmeticError OverflowError RuntimeError NotImplementedError AttributeError"
     " StopIteration NotImplemented".split()
 )

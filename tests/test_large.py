@@ -1,21 +1,26 @@
 """Large inputs are answered within seconds: 24 things, eight rules of three conditions over four variables."""
 
+import itertools
 import random
 import time
 import unittest
 
 from tests.helper import (
-    RefusalCase, at, bar_of, full_makings, house_of, many_of, rule_by_lot, rule_of, shown,
+    RefusalCase, at, bar_of, full_makings, house_of, many_of, rule_by_lot, rule_of, shown, told_lists,
 )
+from whomay.carrying import translated
+from whomay.compare import carried, follows, freer, leaner, least_house
 from whomay.deeds import after, first_refused
 from whomay.finish import Finish
 from whomay.houses import House
+from whomay.least import cure, guards, helpers
 from whomay.matching import matches, open_deeds
+from whomay.papers import fault, keeps_out, paper_of
 from whomay.patterns import Making
 from whomay.schemes import Scheme
 from whomay.ways import how, may, stones, who
 
-SECONDS = 20
+SECONDS = 40
 WORDS = ["own", "use", "know", "see", "hear"]
 
 
@@ -93,6 +98,107 @@ class Large(RefusalCase):
                 new += self.asked(house, self.finish_fits(house), 2)
                 self.assertEqual(shown(house), before)
         self.assertGreater(new, 2000)
+
+    def test_papers(self):
+        for seed, share in enumerate([0.02, 0.1, 0.5, 1.0]):
+            house = large_house(seed, share)
+            things, held = paper_of(house)
+            self.assertEqual((len(things), held), (24, Finish(house).held()))
+            self.assertIsNone(fault(house, (things, held)))
+            gone = random.Random(seed).choice(held)
+            kind = "held" if house.holds(*gone) else "rule"
+            self.assertEqual(fault(house, (things, [row for row in held if row != gone]))[0], kind)
+            self.assertIs(keeps_out(house, (things, held), *gone), False)
+
+    def test_a_paper_of_sixty_things(self):
+        # The first three variables are tied by the fourth one alone.
+        rule = rule_of("r", "a b c d", "d own a, d own b, d own c", "a use b", "d")
+        rules = [rule, *[rule_of("r" + str(at), "a b c d", "a own b, b own c, c own d", "a use d", "b") for at in range(7)]]
+        house = many_of(Scheme(["s"], ["own", "use"], None, rules), "s", 60)
+        names = house.things()
+        for x in names:
+            for y in names:
+                house.give(x, "own", y)
+        things = [(name, "s", True, None) for name in names]
+        use = [(x, "use", y) for x in names for y in names]
+        self.assertIsNone(fault(house, (things, house.held() + use)))
+        use.remove(("t8", "use", "t7"))
+        self.assertEqual(fault(house, (things, house.held() + use)), ("rule", "r", ("t8", "t7", "t0", "t0")))
+
+    def walked(self, house, asked):
+        """The three walks' answers are right; what they tell last could not be left out."""
+        only, shut, cured = house.twin(), house.twin(), house.twin()
+        hands = helpers(house, *asked)
+        for name in house.things():
+            if name not in hands:
+                only.sleep(name)
+        self.assertIs(may(only, *asked), True)
+        sleepers = guards(house, *asked)
+        for name in sleepers:
+            shut.sleep(name)
+        self.assertIs(may(shut, *asked), False)
+        shut.wake(sleepers[-1])
+        self.assertIs(may(shut, *asked), True)
+        gone = cure(house, *asked)
+        for holding in gone:
+            cured.take(*holding)
+        self.assertIs(may(cured, *asked), False)
+        cured.give(*gone[-1])
+        self.assertIs(may(cured, *asked), True)
+        return len(hands), len(gone)
+
+    def test_walks(self):
+        longest = [0, 0]
+        for seed, share in enumerate([0.02, 0.05, 0.6]):
+            house = large_house(seed, share)
+            before = shown(house)
+            new = [triple for triple in Finish(house).held() if not house.holds(*triple)]
+            for asked in random.Random(seed).sample(new, 2):
+                with self.subTest(seed=seed, asked=asked):
+                    longest = [max(pair) for pair in zip(longest, self.walked(house, asked))]
+            self.assertEqual(shown(house), before)
+        self.assertGreater(longest[0], 1)
+        self.assertGreater(longest[1], 20)
+
+    def test_two_schemes_without_sorts(self):
+        sorts = ["s0", "s1", "s2", "s3"]
+        for seed in range(3):
+            lot = random.Random(seed)
+            rules = [rule_by_lot(lot, "r" + str(number), [], WORDS, 4, 3) for number in range(8)]
+            makings = [Making(*pair, lot.sample(WORDS, 2), lot.sample(WORDS, 2)) for pair in itertools.combinations(sorts, 2)]
+            one = Scheme(sorts, WORDS, makings[:6 * (seed % 2)], rules)
+            other = Scheme(sorts, WORDS, makings[:6 * (seed % 2)], rules[::-1])
+            self.compared(one, other)
+
+    def compared(self, one, other):
+        self.assertIsNone(freer(one, other))
+        told = carried(one, other)
+        self.assertEqual(len(told), 8 * 256)
+        for name, row, way in told[::50]:
+            rule = one.rule(name)
+            self.assertTrue(after(least_house(other, rule, row), way).holds(*rule.gives))
+        lean = leaner(one)
+        self.assertIsNone(freer(one, lean))
+        self.assertEqual(told_lists(leaner(lean)), told_lists(lean))
+        for rule in lean.rules():
+            self.assertIs(follows(lean.without_rule(rule.name), rule), False)
+
+    def test_rules_whose_sorts_are_all_asked_for(self):
+        sorts = ["s0", "s1", "s2", "s3"]
+        makings = [Making(*pair, ["own", "use"], ["know", "see"]) for pair in itertools.combinations(sorts, 2)]
+        rules = [rule_of("r" + str(at), "a b c d", "a own b, b use c, c know d", "a see d", "abcd"[at % 4]) for at in range(8)]
+        asking = [rule_of("q" + sort, "a:" + sort, "a hear a", "a own a", "a") for sort in sorts]
+        one = Scheme(sorts, WORDS, makings, rules)
+        self.assertEqual(len(carried(one, Scheme(sorts, WORDS, makings, rules[:4] + asking))), 8 * 256)
+
+    def test_translated(self):
+        house = large_house(3, 0.05)
+        other = Scheme(["s"], WORDS, None, house.scheme().rules()[::-1])
+        deeds = Finish(house).way()
+        told = translated(house, deeds, other)
+        self.assertEqual(len(told), len(deeds))
+        later = after(house.moved_to(other), told)
+        self.assertEqual(later.held(), Finish(house).held())
 
     def test_with_makings(self):
         makings = [

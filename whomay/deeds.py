@@ -1,7 +1,7 @@
 """Deeds from inside a house: makings, rules that are followed, holdings that are let go."""
 
 from whomay.errors import Asleep, Misfit, NoDeed, NoSort, NotHeld, WhoError
-from whomay.fitting import conditions_at, given_at, thing_by_variable
+from whomay.fitting import conditions_at, given_at, hand_at
 from whomay.makings import made_holdings, making_between
 
 
@@ -44,7 +44,7 @@ def play_do(house, name, things):
     for thing in things:
         house.refuse_no_thing(thing)
     refuse_misfit(house, rule, things)
-    refuse_asleep(house, thing_by_variable(rule, things)[rule.by])
+    refuse_asleep(house, hand_at(rule, things))
     for x, word, y in conditions_at(rule, things):
         refuse_not_held(house, x, word, y)
     x, word, y = given_at(rule, things)

@@ -16,17 +16,27 @@ def refuse_standing(house, holdings):
             raise Stands(x, word, y)
 
 
+def finished_things(house, children):
+    """The things of the finished house, each as (name, sort, awake)."""
+    made = [(name, making.made, True) for maker, making, name in children]
+    return [*things_of(house), *made]
+
+
+def begin_made(growth, children):
+    """Let the words of the makings stand between the children and their makers."""
+    for maker, making, name in children:
+        for holding in made_holdings(making, maker, name):
+            growth.begin(holding, ("made", name))
+
+
 def grown(house, children, kept_out):
     """The growth of the house with its children, run to its end."""
-    made = [(name, making.made, True) for maker, making, name in children]
-    growth = Growth(house.scheme(), [*things_of(house), *made])
+    growth = Growth(house.scheme(), finished_things(house, children))
     for holding in kept_out:
         growth.keep_out(holding)
     for holding in house.held():
         growth.begin(holding, ("held",))
-    for maker, making, name in children:
-        for holding in made_holdings(making, maker, name):
-            growth.begin(holding, ("made", name))
+    begin_made(growth, children)
     growth.run()
     return growth
 

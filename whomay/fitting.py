@@ -21,3 +21,8 @@ def conditions_at(pattern, things):
 def given_at(rule, things):
     """The holding that the rule gives at the things."""
     return put_in(rule.gives, thing_by_variable(rule, things))
+
+
+def hand_at(rule, things):
+    """The thing that does the deed at the things."""
+    return thing_by_variable(rule, things)[rule.by]

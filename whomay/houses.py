@@ -81,7 +81,11 @@ class House:
 
     def twin(self):
         """Another house of the same scheme, things and holdings."""
-        other = House(self.own_scheme)
+        return self.moved_to(self.own_scheme)
+
+    def moved_to(self, scheme):
+        """A house of that scheme, which has the same sorts and words, with the same things and holdings."""
+        other = House(scheme)
         other.sort_by_name = {name: self.sort_by_name[name] for name in self.sort_by_name}
         other.awake_by_name = {name: self.awake_by_name[name] for name in self.awake_by_name}
         other.standing = {holding: True for holding in self.standing}

@@ -95,3 +95,16 @@ def fillings(steps, at, spots):
         spots[steps[at].variable] = number
         found.extend(fillings(steps, at + 1, spots))
     return found
+
+
+def first_filling(steps, at, spots):
+    """The first of the fillings, or None where there is none."""
+    if at == len(steps):
+        return tuple(spots[:-1])
+    numbers = members(choices(steps[at], spots))
+    for number in numbers:
+        spots[steps[at].variable] = number
+        found = first_filling(steps, at + 1, spots)
+        if found is not None:
+            return found
+    return None

@@ -80,3 +80,11 @@ class Table:
         self.under[word][y] |= 1 << x
         if x == y:
             self.over[word][-1] |= 1 << x
+
+    def drop(self, holding):
+        """Let the holding, of numbers, stand no longer."""
+        x, word, y = holding
+        self.over[word][x] &= ~(1 << y)
+        self.under[word][y] &= ~(1 << x)
+        if x == y:
+            self.over[word][-1] &= ~(1 << x)

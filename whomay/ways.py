@@ -1,5 +1,6 @@
 """Whether a holding may ever come about, by which deeds, and what has to come about on the way."""
 
+from whomay.errors import Never
 from whomay.finish import Finish
 from whomay.fitting import conditions_at, given_at
 
@@ -22,13 +23,13 @@ def who(house, word, y):
     return [x for x in house.things() if finish.round_of(x, word, y) is not None]
 
 
-def resting(scheme, finish, holding):
-    """The holdings on which this one rests by the reasons of the finished house, itself among them.
+def resting(scheme, finish, holdings):
+    """The holdings on which these rest by the reasons of the finished house, themselves among them.
 
-    Refused with Never, by the finish, where it does not stand there.
+    Refused with Never, by the finish, where one of them does not stand there.
     """
-    found = {holding: True}
-    waiting = [holding]
+    found = {holding: True for holding in holdings}
+    waiting = list(holdings)
     while waiting:
         x, word, y = waiting.pop()
         reason = finish.reason(x, word, y)
@@ -40,21 +41,39 @@ def resting(scheme, finish, holding):
     return found
 
 
-def is_needed(scheme, deed, needed):
-    """True where the deed makes a thing of the needed holdings, or brings one of them about."""
-    if deed[0] == "make":
-        return any([deed[3] in (x, y) for x, word, y in needed])
-    return given_at(scheme.rule(deed[1]), deed[2]) in needed
+def needed_makes(finish, holdings):
+    """The deeds that make the things of the holdings, with those that make their makers."""
+    wanted = {end: True for x, word, y in holdings for end in (x, y)}
+    found = []
+    for deed in reversed(finish.makes):
+        if deed[3] in wanted:
+            wanted[deed[1]] = True
+            found.append(deed)
+    return found[::-1]
+
+
+def deeds_for(scheme, finish, holdings):
+    """Those deeds of the finish's way that the holdings need to come about."""
+    needed = resting(scheme, finish, holdings)
+    steps = [deed for deed in finish.way() if deed[0] == "do"]
+    # Each needed holding has one reason alone, so that all that rests on a deed is lost without it.
+    return [
+        *needed_makes(finish, needed),
+        *[deed for deed in steps if given_at(scheme.rule(deed[1]), deed[2]) in needed],
+    ]
 
 
 def how(house, x, word, y):
     """Deeds that bring the holding about, none of which can be spared."""
-    finish = finished_for(house, x, word, y)
-    needed = resting(house.scheme(), finish, (x, word, y))
-    # Each needed holding has one reason alone, so that all that rests on a deed is lost without it.
-    # What is made hangs on the house by the words of makings only, from one maker to the next: so
-    # the needed holdings name the makers of each made thing that they name.
-    return [deed for deed in finish.way() if is_needed(house.scheme(), deed, needed)]
+    return deeds_for(house.scheme(), finished_for(house, x, word, y), [(x, word, y)])
+
+
+def way_or_none(house, x, word, y):
+    """A way there, or None where there is none."""
+    try:
+        return how(house, x, word, y)
+    except Never:
+        return None
 
 
 def between_and_new(house, holding):
@@ -67,7 +86,7 @@ def between_and_new(house, holding):
 def stones(house, x, word, y):
     """The holdings between things of the house, not standing yet, that every way there brings about."""
     asked = (x, word, y)
-    needed = resting(house.scheme(), finished_for(house, x, word, y), asked)
+    needed = resting(house.scheme(), finished_for(house, x, word, y), [asked])
     # Every way brings a stone about, so only what one way needs is looked at.
     left = [holding for holding in needed if holding != asked and between_and_new(house, holding)]
     found = []
@@ -77,6 +96,6 @@ def stones(house, x, word, y):
         if other.round_of(x, word, y) is None:
             found.append(holding)
         else:
-            needed = resting(house.scheme(), other, asked)
+            needed = resting(house.scheme(), other, [asked])
             left = [each for each in left if each in needed]
     return sorted(found)
