@@ -203,7 +203,8 @@ class Carrying(RefusalCase):
         good = ("do", "lend", ("ann", "bob", "crate"))
         for kind, fields, bad in [
             ("NoThing", ["eve"], ("make", "eve", "box", "b")), ("NoSort", ["bag"], ("make", "ann", "bag", "b")),
-            ("Asleep", ["bob"], ("make", "bob", "box", "b")), ("NoMaking", ["box", "box"], ("make", "crate", "box", "b")),
+            ("Asleep", ["bob"], ("make", "bob", "box", "b")),
+            ("NoMaking", ["box", "box"], ("make", "crate", "box", "b")),
             ("NoName", ["B"], ("make", "ann", "box", "B")), ("Taken", ["ann"], ("make", "ann", "box", "ann")),
             ("NoRule", ["first"], ("do", "first", ("ann", "crate"))), ("Misfit", ["lend"], ("do", "lend", ("ann",))),
             ("NotHeld", ["ann", "own", "ann"], ("do", "lend", ("ann", "bob", "ann"))), ("NoDeed", ["hop"], ("hop",)),

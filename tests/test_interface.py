@@ -39,6 +39,15 @@ CLASSES = {
             "reason": ["x", "word", "y"], "way": [], "end": [],
         }),
     },
+    "whomay.keeper": {
+        "Keeper": (["scheme"], {
+            "enter": ["name", "sort", "awake=True"], "give": ["x", "word", "y"], "take": ["x", "word", "y"],
+            "wake": ["x"], "sleep": ["x"], "add_rule": ["rule"], "add_bar": ["bar"], "add_making": ["making"],
+            "drop_rule": ["name"], "drop_bar": ["name"], "drop_making": ["maker", "made"], "play": ["deed"],
+            "back": [], "house": [], "scheme": [], "many": [],
+        }),
+    },
+    "whomay.desk": {"Desk": (["rows"], {"tell": ["row"]})},
 }
 
 # Module by module: function by function its arguments.
@@ -63,6 +72,11 @@ FUNCTIONS = {
         "freer": ["one", "other"], "carried": ["one", "other"], "leaner": ["scheme"],
     },
     "whomay.carrying": {"translated": ["house", "deeds", "other"]},
+    "whomay.fences": {"fence": ["scheme", "start"], "sorts_held": ["house"]},
+    "whomay.texts": {
+        "scheme_rows": ["scheme"], "house_rows": ["house"], "read_scheme": ["rows"], "read_house": ["scheme", "rows"],
+        "read_part": ["row"], "deed_row": ["deed"], "read_deed": ["row"],
+    },
 }
 
 

@@ -55,8 +55,9 @@ def parameters(function):
 
 
 def assigned(tree):
-    """The names that are parameters or targets anywhere below."""
+    """The names that are parameters, targets or caught errors anywhere below."""
     names = [name for function in functions(tree) for name in parameters(function)]
+    names.extend(node.name for node in ast.walk(tree) if isinstance(node, ast.ExceptHandler) and node.name)
     names.extend(node.id for node in ast.walk(tree) if isinstance(node, ast.Name) and isinstance(node.ctx, ast.Store))
     return names
 

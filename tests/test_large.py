@@ -11,13 +11,18 @@ from tests.helper import (
 from whomay.carrying import translated
 from whomay.compare import carried, follows, freer, leaner, least_house
 from whomay.deeds import after, first_refused
+from whomay.desk import Desk
+from whomay.errors import Barred
+from whomay.fences import fence, sorts_held
 from whomay.finish import Finish
 from whomay.houses import House
+from whomay.keeper import Keeper
 from whomay.least import cure, guards, helpers
 from whomay.matching import matches, open_deeds
 from whomay.papers import fault, keeps_out, paper_of
 from whomay.patterns import Making
 from whomay.schemes import Scheme
+from whomay.texts import deed_row, house_rows, scheme_rows
 from whomay.ways import how, may, stones, who
 
 SECONDS = 40
@@ -199,6 +204,68 @@ class Large(RefusalCase):
         self.assertEqual(len(told), len(deeds))
         later = after(house.moved_to(other), told)
         self.assertEqual(later.held(), Finish(house).held())
+
+    def guarded(self, seed, share):
+        """A keeper of a large house, with eight rules and four bars that are never met: nobody ever hears."""
+        lot = random.Random(seed)
+        rules = [rule_by_lot(lot, "r" + str(number), [], WORDS[:4], 4, 3) for number in range(8)]
+        bars = [bar_of("b" + word, "a b c d", "a hear b, b " + word + " c, c own d") for word in WORDS[:4]]
+        keeper = Keeper(Scheme(["s"], WORDS, None, rules))
+        for number in range(24):
+            keeper.enter("t" + str(number), "s")
+        for x, word, y in itertools.product(keeper.house().things(), WORDS[:4], keeper.house().things()):
+            if lot.random() < share:
+                keeper.give(x, word, y)
+        for bar in bars:
+            keeper.add_bar(bar)
+        return keeper
+
+    def test_a_keepers_changes(self):
+        for seed, share in [(2, 0.1), (3, 0.15)]:
+            keeper = self.guarded(seed, share)
+            before = shown(keeper.house()), keeper.many()
+            self.refused("Crowded", [25], keeper.enter, "more", "s")
+            keeper.sleep("t5")
+            keeper.wake("t5")
+            rule = keeper.scheme().rules()[0]
+            keeper.drop_rule(rule.name)
+            keeper.add_rule(rule)
+            for number in range(4):
+                keeper.back()
+            with self.assertRaises(Barred) as caught:
+                keeper.give("t3", "hear", "t4")
+            later = keeper.house()
+            later.give("t3", "hear", "t4")
+            end = after(later, caught.exception.deeds)
+            self.assertIn(caught.exception.spots, matches(end, keeper.scheme().bar(caught.exception.name)))
+            self.assertEqual((shown(keeper.house()), keeper.many()), before)
+            self.assertGreater(len(Finish(keeper.house()).held()), 1000)
+
+    def test_the_desks_questions(self):
+        house = self.guarded(2, 0.1).house()
+        rows = scheme_rows(house.scheme())
+        desk = Desk(rows[:-4])
+        for name in house.things():
+            desk.tell("enter " + name + " s")
+        for holding in house.held():
+            desk.tell("give " + " ".join(holding))
+        self.assertEqual([desk.tell("add " + row) for row in rows[-4:]], [["done"]] * 4)
+        self.assertEqual(desk.tell("house"), house_rows(house))
+        self.assertEqual(desk.tell("finished"), house_rows(Finish(house).end()))
+        x, word, y = [triple for triple in Finish(house).held() if not house.holds(*triple)][7]
+        asked = " " + " ".join((x, word, y))
+        self.assertEqual(desk.tell("may" + asked), ["yes"])
+        self.assertIn(x, desk.tell("who " + word + " " + y))
+        self.assertEqual(desk.tell("how" + asked), [deed_row(deed) for deed in how(house, x, word, y)])
+        for question in ("helpers", "guards", "stones", "cure"):
+            self.assertNotIn("refused", " ".join(desk.tell(question + asked)))
+        told = desk.tell("give " + " hear ".join([x, y]))
+        self.assertEqual(told[0], "refused barred")
+
+    def test_a_fence(self):
+        house = large_house(1, 0.1, ["s0", "s1", "s2", "s3"])
+        triples = fence(house.scheme(), sorts_held(house))
+        self.assertLessEqual(set(sorts_held(Finish(house).end())), set(triples))
 
     def test_with_makings(self):
         makings = [

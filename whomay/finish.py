@@ -53,9 +53,9 @@ class Finish:
         self.names = [*house.things(), *[name for maker, making, name in children]]
         self.makes = [("make", maker, making.made, name) for maker, making, name in children]
         self.child_by_maker = {(maker, making.made): name for maker, making, name in children}
-        growth = grown(house, children, kept_out)
-        self.round_by_holding = growth.round_by_holding
-        self.reason_by_holding = growth.reason_by_holding
+        self.growth = grown(house, children, kept_out)
+        self.round_by_holding = self.growth.round_by_holding
+        self.reason_by_holding = self.growth.reason_by_holding
 
     def things(self):
         """The names of all things, in their order."""

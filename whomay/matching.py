@@ -1,6 +1,6 @@
 """Where a pattern stands in a house, and which deeds would bring something about."""
 
-from whomay.joins import empty_spots, filling_order, fillings, numbered_triples, steps_in
+from whomay.joins import empty_spots, filling_order, fillings, first_filling, numbered_triples, steps_in
 from whomay.tables import Cast, Table, things_of
 
 
@@ -12,13 +12,27 @@ def table_of(house, cast, more_words):
     return table
 
 
-def named_fillings(cast, table, pattern, masks, given):
-    """The tuples of names at which the conditions stand in the table and the given triples do not."""
+def steps_of(table, pattern, masks, given):
+    """The steps that fill the pattern where its conditions stand in the table and the given triples do not."""
     conditions = numbered_triples(pattern, pattern.conditions)
     order = filling_order(conditions, [conditions[0][0]])
-    steps = steps_in(order, masks, table, conditions, table, numbered_triples(pattern, given))
-    spots = empty_spots(len(order), len(cast.names))
+    return steps_in(order, masks, table, conditions, table, numbered_triples(pattern, given))
+
+
+def named_fillings(cast, table, pattern, masks, given):
+    """The tuples of names at which the conditions stand in the table and the given triples do not."""
+    steps = steps_of(table, pattern, masks, given)
+    spots = empty_spots(len(steps), len(cast.names))
     return [tuple([cast.names[number] for number in row]) for row in fillings(steps, 0, spots)]
+
+
+def one_match(cast, table, pattern):
+    """One tuple of names at which the pattern stands in the table, or None."""
+    steps = steps_of(table, pattern, cast.masks_for(pattern), [])
+    row = first_filling(steps, 0, empty_spots(len(steps), len(cast.names)))
+    if row is None:
+        return None
+    return tuple([cast.names[number] for number in row])
 
 
 def matches(house, pattern):
