@@ -28,6 +28,7 @@ BARRED_WORDS = (
 BARRED_NAMES = set(
     "register mro elements open input law version_info with_traceback add_note format format_map".split()
 )
+CHANGING = {"append", "clear", "extend", "insert", "pop", "remove", "reverse", "setdefault", "update"}
 LISTS_ONLY = {"any", "all", "min", "max", "sum", "sorted"}
 BARRED_NODES = (ast.Global, ast.AsyncFunctionDef, ast.AsyncFor, ast.Await, ast.Import, ast.Div)
 
@@ -72,6 +73,21 @@ def bound_at_module_level(tree):
         elif isinstance(node, ast.Assign):
             names.extend(target.id for target in node.targets)
     return names
+
+
+def changed_in(loop):
+    """The names and attributes that the loop goes through and changes."""
+    gone_through = {ast.unparse(node) for node in ast.walk(loop.iter) if isinstance(node, (ast.Name, ast.Attribute))}
+    changed = set()
+    for part in loop.body:
+        for node in ast.walk(part):
+            if isinstance(node, ast.Call) and isinstance(node.func, ast.Attribute) and node.func.attr in CHANGING:
+                changed.add(ast.unparse(node.func.value))
+            if isinstance(node, ast.Subscript) and not isinstance(node.ctx, ast.Load):
+                changed.add(ast.unparse(node.value))
+            if isinstance(node, ast.AugAssign):
+                changed.add(ast.unparse(node.target))
+    return gone_through & changed
 
 
 class Language(unittest.TestCase):
@@ -165,6 +181,20 @@ class Language(unittest.TestCase):
                     self.assertNotIn("%", str(node.value))
                 if isinstance(node, ast.Call) and isinstance(node.func, ast.Name) and node.func.id in LISTS_ONLY:
                     self.assertFalse(any(isinstance(part, ast.GeneratorExp) for part in node.args))
+
+    def test_stars_loops_and_handlers(self):
+        own_errors = {node.name for node in ast.walk(parsed(PACKAGE / "errors.py")) if isinstance(node, ast.ClassDef)}
+        for path, tree in parsed_files():
+            for node in ast.walk(tree):
+                if isinstance(node, ast.Call):
+                    for part in node.args:
+                        plain = isinstance(getattr(part, "value", None), (ast.Name, ast.Attribute))
+                        self.assertTrue(plain or not isinstance(part, ast.Starred), ast.dump(node))
+                if isinstance(node, ast.ExceptHandler):
+                    self.assertIn(node.type.id, own_errors)
+                if isinstance(node, ast.For):
+                    self.assertFalse(changed_in(node), ast.unparse(node))
+                self.assertNotIsInstance(node, (ast.GeneratorExp, ast.Lambda, ast.With, ast.NamedExpr))
 
     def test_special_methods(self):
         allowed = {"__init__", "__eq__", "__repr__", "__str__", "__len__"}

@@ -41,7 +41,8 @@ def children_of(house):
     # What is made makes things in its turn, so the row of makers grows while it is gone through.
     while at < len(makers):
         maker = makers[at]
-        for making in makings_from(house.scheme(), sort_of[maker]):
+        makings = makings_from(house.scheme(), sort_of[maker])
+        for making in makings:
             name = free_name(sort_of)
             sort_of[name] = making.made
             makers.append(name)
