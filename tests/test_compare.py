@@ -361,6 +361,27 @@ class FreerAndCarried(RefusalCase):
         self.assertGreater(min(seen.values()), 40)
         self.assertGreater(longest, 1)
 
+    def test_long_ways(self):
+        words = ["p", "q", "r", "s", "t"]
+        for seed in range(30):
+            lot = random.Random(seed)
+            # The words go round between x and y, turned or not, always by the hand of x.
+            pair, rules = ("x", "y"), []
+            for word, later in zip(words, words[1:]):
+                turned = lot.random() < 0.5
+                gives = ("b", later, "a") if turned else ("a", later, "b")
+                hand = "ab"[pair.index("x")]
+                rules.append(rule_of(word, "a b", "a " + word + " b", " ".join(gives), hand))
+                pair = pair[::-1] if turned else pair
+            lot.shuffle(rules)
+            far = rule_of("far", "x y:box", "x p y", pair[0] + " t " + pair[1], "x")
+            one, other = [Scheme(["lord", "box"], words, None, some) for some in ([far], rules)]
+            told = carried(one, other)
+            self.assertEqual([len(way) for name, row, way in told], [4, 4])
+            self.fits(one, other, told)
+            for rule in rules:
+                self.assertEqual(freer(one, other.without_rule(rule.name)), ("far", ("lord", "box")))
+
     def test_what_it_means_for_houses(self):
         told = 0
         for seed in range(250):

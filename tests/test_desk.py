@@ -348,7 +348,7 @@ class Answers(RefusalCase):
             house = read_house(read_scheme(desk.tell("scheme")), desk.tell("house"))
             with self.subTest(seed=seed):
                 self.assertEqual(house_rows(house), again.tell("house"))
-                for row in lot.sample(sorted(plain_answers(house)), 40):
+                for row in lot.sample(sorted(plain_answers(house)), 40) if len(house) > 1 else plain_answers(house):
                     self.assertEqual(again.tell(row), desk.tell(row))
 
 
